@@ -1,0 +1,1 @@
+"""Evenscales: rows of equations solved exactly, in fractions."""
