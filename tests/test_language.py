@@ -26,6 +26,12 @@ BARRED_WORDS = re.compile(
     r"namedtuple|NamedTuple|TypedDict|TYPE_CHECKING|abstractmethod)\b|dataclass|overload|contextmanager"
 )
 
+METHODS = set(
+    "append clear copy count endswith extend find get index insert isalnum isalpha isdigit islower isspace isupper "
+    "items join keys ljust lower lstrip partition pop remove replace reverse rfind rjust rpartition rsplit rstrip "
+    "setdefault split splitlines startswith strip update upper values zfill bit_length".split()
+)
+
 
 def package_files():
     return sorted(path for path in PACKAGE.rglob("*") if "__pycache__" not in path.parts)
@@ -67,6 +73,46 @@ class PackageFiles(unittest.TestCase):
                 if isinstance(node, ast.Name):
                     self.assertNotIn(node.id, barred)
                     self.assertFalse(node.id.startswith("_"))
+
+    def test_only_listed_methods_are_called(self):
+        own = {node.name for tree in package_trees() for node in ast.walk(tree) if isinstance(node, ast.FunctionDef)}
+        for tree in package_trees():
+            for node in ast.walk(tree):
+                if isinstance(node, ast.Call) and isinstance(node.func, ast.Attribute):
+                    self.assertIn(node.func.attr, METHODS | own)
+
+    def test_no_local_hides_another_name(self):
+        for tree in package_trees():
+            taken = set(dir(builtins))
+            for node in tree.body:
+                if isinstance(node, ast.ClassDef):
+                    taken.add(node.name)
+                if isinstance(node, ast.ImportFrom):
+                    taken.update(alias.name for alias in node.names)
+            for node in ast.walk(tree):
+                if isinstance(node, ast.arg):
+                    self.assertNotIn(node.arg, taken)
+                    self.assertFalse(node.arg.startswith("_"))
+                if isinstance(node, ast.Name) and isinstance(node.ctx, ast.Store):
+                    self.assertNotIn(node.id, taken)
+
+    def test_no_two_files_draw_from_one_another(self):
+        drawn = {}
+        for path in package_files():
+            tree = ast.parse(path.read_text(encoding="utf-8"))
+            drawn["evenscales." + path.stem] = {node.module for node in tree.body if isinstance(node, ast.ImportFrom)}
+        while drawn:
+            ready = [name for name, others in drawn.items() if not others & set(drawn)]
+            self.assertNotEqual(ready, [])
+            for name in ready:
+                drawn.pop(name)
+
+    def test_is_stands_beside_none_true_and_false_alone(self):
+        for tree in package_trees():
+            for node in ast.walk(tree):
+                if isinstance(node, ast.Compare) and any(isinstance(sign, (ast.Is, ast.IsNot)) for sign in node.ops):
+                    self.assertIsInstance(node.comparators[0], ast.Constant)
+                    self.assertIn(node.comparators[0].value, (None, True, False))
 
     def test_statements_and_expressions(self):
         for tree in package_trees():
